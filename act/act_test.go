@@ -8,6 +8,7 @@ import (
 
 	"rematch/act"
 	"rematch/api"
+	"rematch/arena"
 	"rematch/fix"
 	"rematch/order"
 	"rematch/rng"
@@ -214,7 +215,13 @@ func TestStrike(t *testing.T) {
 			t.Fatalf("tick %d: %+v", i, u)
 		}
 	}
+	weak := with(t, s, 1, func(u *world.Unit) { u.HP = 1 })
+	weak = with(t, weak, id, func(u *world.Unit) { u.HP, u.Cool = 1, 1 })
+	if u := unit(t, act.Act(weak, id), 1); u.HP > -3 {
+		t.Errorf("one hit point left: %+v", u)
+	}
 	s = with(t, s, 1, func(u *world.Unit) { u.HP = 0 })
+	s = with(t, s, id, func(u *world.Unit) { u.Progress, u.Steps, u.Way = 1, 2, [8]uint16{4, 5} })
 	if u := unit(t, act.Act(s, id), id); !idle(u) || u.Cool != 3 {
 		t.Errorf("one without hit points: %+v", u)
 	}
@@ -277,6 +284,14 @@ func TestStrangeTargets(t *testing.T) {
 			t.Errorf("the goal %d: %+v", goal, u)
 		}
 	}
+	generations := make([]int, api.MaxUnits)
+	generations[127] = 511
+	last, one, two := s, unit(t, s, 0), unit(t, s, 1)
+	one.Order, one.Goal = api.DoAttack, 65535
+	last.Units, _ = arena.Of(generations, map[int]world.Unit{0: one, 127: two})
+	if got := act.Act(last, 0); unit(t, got, 65535).HP > 16 || unit(t, got, 0).Cool != 4 {
+		t.Errorf("the last id of all: %+v", unit(t, got, 65535))
+	}
 	x := with(t, s, 0, func(u *world.Unit) { u.Order, u.Goal = api.DoAttack, 0 })
 	got := act.Act(x, 0)
 	if u := unit(t, got, 0); u.HP != 20-4-rng.Below(got.Rng, 2) || u.Cool != 4 || u.Order != api.DoAttack {
@@ -325,6 +340,17 @@ func TestEmptyTile(t *testing.T) {
 	if u := unit(t, act.Act(s, id), id); !idle(u) {
 		t.Errorf("%+v", u)
 	}
+	near := game(t, "W.*...", "......", "......", "......")
+	id = on(t, &near, 0, api.DoHarvest, 2, 0)
+	near = times(near, id, 3)
+	if u := unit(t, near, id); u.Tile != 1 || u.Progress != 0 || u.Carry != 0 {
+		t.Errorf("two tiles far: %+v", u)
+	}
+	digs := with(t, times(near, id, 3), id, func(u *world.Unit) { u.Carry = 5 })
+	digs.Units, _, _ = digs.Units.Add(world.Unit{Kind: api.Base, Tile: 5, HP: 60})
+	if u := unit(t, act.Act(digs, id), id); u.Progress != 1 || u.Steps != 5 || u.Way != [8]uint16{7, 8, 9, 3, 4} {
+		t.Errorf("on its way home its progress begins anew: %+v", u)
+	}
 	far := game(t, "W..#*.", "...#..", "...###", "......")
 	id = on(t, &far, 0, api.DoHarvest, 4, 0)
 	if u := unit(t, act.Act(far, id), id); !idle(u) {
@@ -342,6 +368,10 @@ func TestHome(t *testing.T) {
 		t.Errorf("the nearest: %v", got)
 	}
 	near, _ := s.At(32)
+	weak := with(t, s, near, func(u *world.Unit) { u.HP = 1 })
+	if got := ways(weak); got != [8]uint16{14, 20, 26} {
+		t.Errorf("one hit point left: %v", got)
+	}
 	dead := with(t, s, near, func(u *world.Unit) { u.HP = 0 })
 	if got := ways(dead); got != [8]uint16{9, 3, 2, 1} {
 		t.Errorf("the other one: %v", got)

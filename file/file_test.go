@@ -128,7 +128,12 @@ func join(l []piece, change func(index *piece, behind *[]byte, place *int)) []by
 	if change != nil {
 		change(&end, &behind, &place)
 	}
-	b = append(chunk.Put(b, end.kind, end.data), behind...)
+	if end.bytes != nil {
+		b = append(b, end.bytes...)
+	} else {
+		b = chunk.Put(b, end.kind, end.data)
+	}
+	b = append(b, behind...)
 	return seal(wire.PutFixed(b, uint32(place)))
 }
 
@@ -295,6 +300,7 @@ func TestOpenFaults(t *testing.T) {
 		{"Index, none", join(pieces(t, p), func(x *piece, _ *[]byte, _ *int) { x.data = nil }), api.ErrForm},
 		{"the foot's place", join(pieces(t, p), func(_ *piece, _ *[]byte, at *int) { *at++ }), api.ErrForm},
 		{"bytes ahead of the foot", join(pieces(t, p), func(_ *piece, b *[]byte, _ *int) { *b = []byte{0} }), api.ErrForm},
+		{"a second foot", join(pieces(t, p), func(_ *piece, b *[]byte, at *int) { *b = append(wire.PutFixed(nil, uint32(*at)), 1, 2, 3, 4) }), api.ErrForm},
 		{"a chunk ahead of the foot", join(pieces(t, p), func(_ *piece, b *[]byte, _ *int) { *b = chunk.Put(nil, 7, nil) }), api.ErrForm},
 		{"as it must be", join(pieces(t, p), nil), api.OK},
 	} {
@@ -356,6 +362,22 @@ func TestFrameLimits(t *testing.T) {
 	l[5] = piece{kind: 6, data: make([]byte, 2*file.MaxFrame)}
 	if _, err := open(t, join(l, nil)).Delta(1, nil); err != api.ErrShort {
 		t.Errorf("a delta at its limit: %v", err)
+	}
+}
+
+// P20.1: the longest game; the limits' numbers.
+func TestLongest(t *testing.T) {
+	if file.MaxKey != 256 || file.MaxFrame != 131072 || file.MaxData != 2097152 {
+		t.Error("limits")
+	}
+	p := file.Parts{Header: header(), N: api.MaxTicks, K: 256, Frames: make([][]byte, api.MaxTicks+1)}
+	p.Frames[4095], p.Frames[4096] = []byte("a"), []byte("b")
+	f := open(t, build(t, p))
+	if b, err := f.Frame(4095); err != api.OK || string(b) != "a" {
+		t.Errorf("the last but one: %v", err)
+	}
+	if b, err := f.Frame(4096); err != api.OK || string(b) != "b" || f.Parts().N != 4096 {
+		t.Errorf("the last one: %v", err)
 	}
 }
 
@@ -457,6 +479,29 @@ func TestWithAsTheyAre(t *testing.T) {
 	l[3].data, _ = x.Bytes(3)
 	if err != api.OK || !bytes.Equal(got, join(l, nil)) {
 		t.Errorf("%v", err)
+	}
+}
+
+// P20.4: the Index, too, is as it is, if nothing is moved.
+func TestWithIndexAsItIs(t *testing.T) {
+	p := file.Parts{Header: header(), N: 30, K: 1, Frames: make([][]byte, 31)}
+	p.Track.Marks = []track.Mark{{Tick: 1, Name: "one"}}
+	raw := func(index *piece, _ *[]byte, _ *int) {
+		n := byte(len(index.data))
+		index.bytes = seal(append([]byte{7, 0, n, n}, index.data...))
+	}
+	b := join(pieces(t, p), raw)
+	f := open(t, b)
+	if len(build(t, p)) >= len(b) {
+		t.Fatal("the Index would not be packed")
+	}
+	p.Track.Marks[0].Name = "two"
+	if got, err := f.With(p.Track); err != api.OK || !bytes.Equal(got, join(pieces(t, p), raw)) {
+		t.Errorf("%v", err)
+	}
+	p.Track.Marks[0].Name = "three"
+	if got, err := f.With(p.Track); err != api.OK || !bytes.Equal(got, build(t, p)) {
+		t.Errorf("moved: %v", err)
 	}
 }
 

@@ -151,7 +151,7 @@ func TestBetween(t *testing.T) {
 		part, all int
 		want      fix.Point
 	}{
-		{0, 4, p}, {4, 4, q}, {1, 4, fix.Point{X: 35, Y: -5}}, {3, 4, fix.Point{X: 85, Y: -55}}, {1 << 20, 1 << 20, q}, {1, 1 << 20, p},
+		{0, 4, p}, {4, 4, q}, {0, 1, p}, {1, 1, q}, {1, 4, fix.Point{X: 35, Y: -5}}, {3, 4, fix.Point{X: 85, Y: -55}}, {1 << 20, 1 << 20, q}, {1, 1 << 20, p},
 		{1, 0, p}, {0, 0, p}, {-1, 4, p}, {5, 4, p}, {1, -4, p}, {5, 1<<20 + 1, p}, {1<<20 + 1, 1<<20 + 1, p}, {-1 << 63, 1<<63 - 1, p},
 	} {
 		if got := p.Between(q, r.part, r.all); got != r.want {

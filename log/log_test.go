@@ -58,6 +58,7 @@ func TestMay(t *testing.T) {
 		{"good", good(), true},
 		{"128 units", row(128), true},
 		{"no units", row(0), true},
+		{"one player", api.Header{W: 4, H: 4, Players: 1, Tiles: strings.Repeat("\x00", 16)}, true},
 		{"129 units", row(129), false},
 		{"zero", api.Header{}, false},
 		{"a side of 3", api.Header{W: 3, H: 4, Players: 1, Tiles: strings.Repeat("\x00", 12)}, false},
@@ -179,6 +180,7 @@ func TestPut(t *testing.T) {
 		n    int
 		want api.Errno
 	}{
+		{"the greatest numbers", []log.Entry{{0, api.Command{Player: 255, Do: 255, Unit: 65535, Tile: 65535, Target: 65535, Kind: 255}}}, 1, api.OK},
 		{"none", nil, 0, api.OK},
 		{"none of 4096", nil, 4096, api.OK},
 		{"ticks below 0", nil, -1, api.ErrArg},

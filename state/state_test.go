@@ -283,6 +283,12 @@ func TestEdges(t *testing.T) {
 	if back, err := state.Take(wide, state.Bytes(s)); err != api.OK || !same(back, s) {
 		t.Errorf("the greatest map: %v", err)
 	}
+	wide.Tiles = wide.Tiles[:4095] + "\x00"
+	wide.Starts = []api.Start{{Kind: api.Base, Tile: 4095}}
+	s = begin(t, wide)
+	if back, err := state.Take(wide, state.Bytes(s)); err != api.OK || !same(back, s) {
+		t.Errorf("its last tile: %v", err)
+	}
 }
 
 // P16.2: which error wrong bytes meet: a header that may not be ahead of all; what a reader refuses ahead of what may not be.
@@ -347,6 +353,20 @@ func TestTakeGreat(t *testing.T) {
 				t.Errorf("the number %d above 2^%d: %v", field, shift, err)
 			}
 		}
+	}
+	nine := append(append(bytes.Clone(b[:at+11]), 9, 0, 0, 0, 0, 0, 0, 0, 0, 0), b[at+12:]...)
+	if _, err := state.Take(h, nine); err != api.ErrForm {
+		t.Errorf("nine tiles: %v", err)
+	}
+	eight := append(append(bytes.Clone(b[:at+11]), 8, 0, 0, 0, 0, 0, 0, 0, 0), b[at+12:]...)
+	if _, err := state.Take(h, eight); err != api.OK {
+		t.Errorf("eight tiles: %v", err)
+	}
+	four := api.Header{W: 4, H: 4, Players: 4, Tiles: strings.Repeat("\x00", 16)}
+	crowd := begin(t, four)
+	crowd.Players = append(crowd.Players, world.Player{})
+	if _, err := state.Take(four, state.Bytes(crowd)); err != api.ErrForm {
+		t.Errorf("five players of four: %v", err)
 	}
 	for _, n := range []uint64{2 * 513, 2*512 + 1, 1 << 20, 1<<64 - 2} {
 		x := wire.Put(bytes.Clone(b[:at]), n)

@@ -14,9 +14,8 @@ import (
 	"rematch/world"
 )
 
-// game begins one on a map that is drawn: '.' Ground, '#' Rock, '*' Crystal; units of the players 0 and 1 as letters (B, W, S, A, K; b, w, s, a, k).
-func game(t *testing.T, players int, rows ...string) world.State {
-	t.Helper()
+// drawn is a header of a map that is drawn: '.' Ground, '#' Rock, '*' Crystal; units of the players 0 and 1 as letters (B, W, S, A, K; b, w, s, a, k).
+func drawn(players int, rows ...string) api.Header {
 	h := api.Header{W: len(rows[0]), H: len(rows), Players: players, Seed: 5}
 	var tiles []byte
 	for i, c := range strings.Join(rows, "") {
@@ -26,7 +25,17 @@ func game(t *testing.T, players int, rows ...string) world.State {
 		}
 	}
 	h.Tiles = string(tiles)
-	s, err := world.Begin(h)
+	return h
+}
+
+func war() api.Header {
+	return drawn(2, "BW.*..#S", "W..*.A..", "K.A..#s.", "#....s.s", "..*...wb", "..w..a.k")
+}
+
+// game begins one on a map that is drawn.
+func game(t *testing.T, players int, rows ...string) world.State {
+	t.Helper()
+	s, err := world.Begin(drawn(players, rows...))
 	if err != api.OK {
 		t.Fatal(err)
 	}
@@ -275,7 +284,7 @@ func slow(s world.State, l []api.Command) world.State {
 func TestAny(t *testing.T) {
 	rnd := rand.New(rand.NewSource(1))
 	for range 6 {
-		s := game(t, 2, "BW.*..#S", "W..*.A..", "K.A..#s.", "#....s.s", "..*...wb", "..w..a.k")
+		s, _ := world.Begin(war())
 		s.Players[0].Tech, s.Players[1].Tech = 1, 1
 		for range 250 {
 			var l []api.Command

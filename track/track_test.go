@@ -235,6 +235,12 @@ func TestAddDrop(t *testing.T) {
 	if want := []track.Mark{{0, "f"}, {2, "b"}, {5, "a"}, {5, "c"}, {9, "d"}}; err != api.OK || !slices.Equal(y.Marks, want) {
 		t.Errorf("%v, %v", y.Marks, err)
 	}
+	if y, err := x.Drop(0); err != api.OK || !slices.Equal(y.Marks, x.Marks[1:]) {
+		t.Errorf("the first one: %v, %v", y.Marks, err)
+	}
+	if y, err := x.Drop(5); err != api.OK || !slices.Equal(y.Marks, x.Marks[:5]) {
+		t.Errorf("the last one: %v, %v", y.Marks, err)
+	}
 	for _, i := range []int{-1, 6, least, most} {
 		if y, err := x.Drop(i); err != api.ErrNone || !same(y, x) {
 			t.Errorf("the bookmark %d: %v", i, err)

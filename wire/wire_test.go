@@ -104,6 +104,12 @@ func TestRead(t *testing.T) {
 	if got := r.Bytes(0); len(got) != 0 || r.Err() != api.OK {
 		t.Error("no bytes", got)
 	}
+	if one := wire.Of([]byte{9}); one.End() != api.ErrForm {
+		t.Error("End ahead of one byte", one.End())
+	}
+	if most := wire.Of([]byte("\xff\xff\xff\xff\x07")); wire.MaxInt != 2147483647 || most.Int() != 2147483647 {
+		t.Error("the greatest Int", most.Err())
+	}
 	if got := r.Bytes(3); !bytes.Equal(got, []byte{1, 2, 3}) || r.End() != api.OK || r.At() != len(b) || r.Left() != 0 {
 		t.Error("Bytes", got, r.End())
 	}

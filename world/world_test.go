@@ -263,6 +263,9 @@ func TestExplore(t *testing.T) {
 // P11.3: the widest map, the last bit of a row.
 func TestWide(t *testing.T) {
 	s := begin(t, plain(64, 64, 1, api.Start{Owner: 0, Kind: api.Base, Tile: 4095}))
+	if world.Ahead != 8 {
+		t.Error("Ahead")
+	}
 	if !s.Explored(0, 4095) || s.Players[0].Explored[63]>>58 != 63 || s.Players[0].Explored[57] != 0 || s.Players[0].Explored[58] != 1<<63 {
 		t.Errorf("%x", s.Players[0].Explored[56:])
 	}
