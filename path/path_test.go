@@ -190,13 +190,15 @@ func TestNodes(t *testing.T) {
 	}
 }
 
-// P10.1: on a great map, with tiles that are come to by fewer steps later on.
+// P10.1: on great maps, where tiles are come to by fewer steps later on, and what was open before does not count as taken.
 func TestGreat(t *testing.T) {
-	rnd := rand.New(rand.NewSource(2))
-	for range 40 {
+	limited := 0
+	for _, seed := range append([]int64{43, 135, 210, 232, 283, 322, 459, 528}, rand.New(rand.NewSource(2)).Int63(), 1, 2, 3, 4, 5, 6, 7, 8, 9) {
+		rnd := rand.New(rand.NewSource(seed))
 		tiles := make([]byte, 64*64)
+		rocks := 20 + rnd.Intn(25)
 		for i := range tiles {
-			if rnd.Intn(10) < 3 {
+			if rnd.Intn(100) < rocks {
 				tiles[i] = api.Rock
 			}
 		}
@@ -205,7 +207,13 @@ func TestGreat(t *testing.T) {
 		got, ok := path.Find(m, nil, from, to, 1)
 		want, there := slow(m, none, from, to, 1, path.Nodes)
 		if ok != there || !slices.Equal(got, want) {
-			t.Fatalf("from %d to %d: %v, %v, want %v, %v", from, to, got, ok, want, there)
+			t.Fatalf("seed %d, from %d to %d: %v, %v, want %v, %v", seed, from, to, got, ok, want, there)
 		}
+		if _, far := slow(m, none, from, to, 1, 550); ok && !far {
+			limited++
+		}
+	}
+	if limited < 4 {
+		t.Errorf("only %d ways take nearly all of Nodes", limited)
 	}
 }
